@@ -1,0 +1,1 @@
+"""farebest: what a card's day costs, never dearer than the cheapest tickets."""

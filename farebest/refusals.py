@@ -1,0 +1,6 @@
+"""The numbers that refusals are answered with."""
+
+NOT_THERE = -2
+TOO_EARLY = -13
+WRONG_VALUE = -22
+NO_ROOM = -28
