@@ -1,13 +1,16 @@
 """How one list of whole numbers is told apart into calls."""
 
-# nr_again is number 3; it is what's left where the others are told apart.
+# nr_again is number 3 and nc_how number 8; each is what's left where the others are told apart.
 NR_START = 0
 NR_TAP = 1
 NR_SEAL = 2
 NC_START = 4
+NC_HEARD = 5
+NC_LACKS = 6
+NC_BILL = 7
 
 # How many numbers a call without rows has, its own number among them, by that number.
-LENGTHS = (3, 5, 3, 3)
+LENGTHS = {0: 3, 1: 5, 2: 3, 3: 3, 6: 2, 7: 3, 8: 3}
 
 
 def row_at(numbers, place):
@@ -22,6 +25,8 @@ def length_at(calls, place):
         single_count = calls[place + 2]
         passes_count = calls[place + 3 + single_count]
         return 4 + single_count + passes_count
+    if calls[place] == NC_HEARD:
+        return 2 + calls[place + 1]
     return LENGTHS[calls[place]]
 
 

@@ -26,6 +26,22 @@ def nc_start(readers, single=SINGLE, passes=()):
     return [4, readers, len(single)] + list(single) + [len(numbers)] + numbers
 
 
+def nc_heard(message):
+    return [5, len(message)] + list(message)
+
+
+def nc_lacks(reader):
+    return [6, reader]
+
+
+def nc_bill(card, day):
+    return [7, card, day]
+
+
+def nc_how(card, day):
+    return [8, card, day]
+
+
 def joined(calls):
     return [number for call in calls for number in call]
 
@@ -79,3 +95,27 @@ def tap_message(me, number, card, minute, zones):
 def seal_message(me, number, minute):
     whole = [number, 0, minute]
     return checked(bytes([2, me, 0, 0]) + b"".join(n.to_bytes(4, "little") for n in whole))
+
+
+def heard_tap(reader, number, card, minute, zones):
+    return nc_heard(tap_message(reader, number, card, minute, zones))
+
+
+def heard_seal(reader, number, minute):
+    return nc_heard(seal_message(reader, number, minute))
+
+
+def heard_rides(card, rides, reader=0, first=0):
+    """A card's rides (minute, zones) as heard from one reader, numbered in the order in which they stand."""
+    return [heard_tap(reader, first + k, card, minute, zones) for k, (minute, zones) in enumerate(rides)]
+
+
+def paid(*how):
+    """What nc_how answers of a day whose rides are paid so."""
+    return [len(how)] + list(how) + [0] * (32 - len(how))
+
+
+def day_of(single, passes, rides, card=9, day=0):
+    """What nc_bill and nc_how answer of a card that has these rides and no others."""
+    found = ask(nc_start(1, single, passes), *heard_rides(card, rides), nc_bill(card, day), nc_how(card, day))
+    return found[-2], found[-1]

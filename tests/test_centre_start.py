@@ -3,7 +3,8 @@
 import unittest
 
 from farebest.centre import Line
-from tests.lines import SINGLE, ask, firsts, nc_start, nr_again, nr_seal, nr_start, nr_tap
+from tests.lines import (SINGLE, ask, firsts, heard_seal, heard_tap, nc_bill, nc_how, nc_lacks, nc_start, nr_again,
+                         nr_seal, nr_start, nr_tap, paid)
 
 MOST = 2 ** 32 - 1
 PRICES = 2 ** 24
@@ -108,7 +109,40 @@ class StartedAgain(unittest.TestCase):
     def test_another_start_gives_another_centre(self):
         line = Line()
         line.start_centre(2, list(SINGLE), [PASS])
-        line.centre.taps[(0, 0)] = (1, 2, 3)
+        line.centre.taps[(0, 0)] = True
         self.assertEqual(line.start_centre(1, [1] * 8, []), [0])
         self.assertEqual((line.centre.reader_count, line.centre.tariff.single), (1, [1] * 8))
         self.assertEqual((line.centre.tariff.passes, line.centre.taps, line.centre.seals), ([], {}, [(0, 0)]))
+
+
+class WhatTheCentreShows(unittest.TestCase):
+    HEARD = [heard_tap(1, 0, 9, 10, 3), heard_tap(1, 1, 9, 20, 1), heard_seal(1, 3, 1440), heard_seal(0, 0, 1440)]
+    ASKED = [nc_lacks(0), nc_lacks(1), nc_lacks(2), nc_bill(9, 0), nc_how(9, 0), nc_bill(9, 1)]
+    SHOWN = [[-11], [2], [-22], [0, 250, 2], paid(1, 1), [0, 0, 0]]
+    START = nc_start(2, SINGLE, [(250, 60, 3)])
+
+    def test_started_anew_it_heard_nothing(self):
+        found = ask(self.START, *self.HEARD, *self.ASKED, self.START, *self.ASKED, *self.HEARD, *self.ASKED)
+        nothing = [[-11], [-11], [-22], [0, 0, 0], paid(), [0, 0, 0]]
+        self.assertEqual(found, [[0]] + [[1]] * 4 + self.SHOWN + [[0]] + nothing + [[1]] * 4 + self.SHOWN)
+
+    def test_a_day_that_was_closed_is_open_then(self):
+        found = firsts(nc_start(1), heard_seal(0, 0, 1440), nc_bill(9, 0), nc_start(1), nc_bill(9, 0))
+        self.assertEqual(found, [0, 1, 1, 0, 0])
+
+    def test_started_anew_with_another_tariff_and_more_readers(self):
+        found = ask(self.START, *self.HEARD, *self.ASKED, nc_start(3, [7] * 8), nc_lacks(2), *self.HEARD, *self.ASKED)
+        self.assertEqual(found[11:], [[0], [-11]] + [[1]] * 4 + [[-11], [2], [-11], [0, 14, 2], paid(0, 0), [0, 0, 0]])
+
+    def test_a_refused_one_leaves_all_as_it_was(self):
+        for start in (nc_start(0, [1] * 8), nc_start(9, [1] * 8), nc_start(1, [PRICES] * 8),
+                      nc_start(1, [1] * 8, [PASS] * 4), nc_start(1, [1] * 8, [(1, 0, 1)]),
+                      nc_start(1, [1] * 8, [(1, 1441, 1)]), nc_start(1, [1] * 8, [(PRICES, 1, 1)])):
+            found = ask(self.START, *self.HEARD, start, *self.ASKED, *self.HEARD, start, heard_tap(1, 2, 9, 30, 2),
+                        nc_lacks(1), nc_bill(9, 0), nc_how(9, 0))
+            self.assertEqual(found[5:], [[-22]] + self.SHOWN + [[0]] * 4 + [[-22], [1], [-11], [1, 250, 3],
+                                                                            paid(1, 1, 1)])
+
+    def test_readers_that_start_anew_leave_the_centre(self):
+        found = ask(self.START, *self.HEARD, nr_start(1, 1), nr_tap(1, 5, 6, 7), nr_start(1, 9), *self.ASKED)
+        self.assertEqual(found[8:], self.SHOWN)

@@ -43,3 +43,10 @@ class Written(unittest.TestCase):
         self.assertEqual(found[-1][:17], [0x0103, 2, 5, 0, 0, 3, 1, 0, 0, 0, 0, 0, 0, 0x4F, 0x5E, 0x6D, 0x7C])
         self.assertEqual(found[-2][1:], lines.tap_message(5, 0x0102, 0x0A0B0C0D, 0x7B6C5D4E, 0x9F))
         self.assertEqual(found[-1][1:], lines.seal_message(5, 0x0103, 0x7C6D5E4F))
+
+
+class Right(unittest.TestCase):
+    def test_the_reader_by_itself(self):
+        for reader in range(256):
+            self.assertEqual(messages.is_right(lines.tap_message(reader, 0, 1, 1, 1)), reader < 8)
+            self.assertEqual(messages.is_right(lines.seal_message(reader, 0, 1)), reader < 8)
